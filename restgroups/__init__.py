@@ -1,1 +1,1 @@
-"""Groups nobody leaves: who would rather go where, and which sets of people would leave."""
+"""Groups nobody leaves: who would rather go where, what is at rest, what holds, and what is best for all."""

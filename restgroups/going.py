@@ -1,87 +1,85 @@
-"""Groups, what people have in them, and where each may go."""
+"""Where each person may go, by the three ways, and the step that is made of it."""
+
+from restgroups.standing import has_in, numbered
+
+EVERY_WAY = 3
 
 
-def numbered(groups):
-    """The same groups, numbered as they first come."""
-    numbers = {}
-    for group in groups:
-        numbers.setdefault(group, len(numbers))
-    return [numbers[group] for group in groups]
+def is_welcome(standing, i, k):
+    liking = standing.liking
+    return all([liking.worths[m][i] >= 0 for m in liking.people[standing.places[k]]])
 
 
-def how_many(groups):
-    return max(groups) + 1
+def is_let_go(standing, i):
+    liking = standing.liking
+    return all([liking.worths[m][i] <= 0 for m in liking.people[standing.places[standing.groups[i]]]])
 
 
-def those_in(groups, k):
-    """Nobody is in the number behind all groups: to go there is to be alone."""
-    return [m for m in range(len(groups)) if groups[m] == k]
-
-
-def has_with(worths, i, people):
-    """One's own worth to oneself is kept as 0, so i may be among these or not."""
-    return sum([worths[i][m] for m in people])
-
-
-def has_in(worths, groups, i, k):
-    return has_with(worths, i, those_in(groups, k))
-
-
-def has_now(worths, groups, i):
-    return has_in(worths, groups, i, groups[i])
-
-
-def is_welcome(worths, groups, i, k):
-    return all([worths[m][i] >= 0 for m in those_in(groups, k)])
-
-
-def is_let_go(worths, groups, i):
-    return all([worths[m][i] <= 0 for m in those_in(groups, groups[i])])
-
-
-def ways_there(worths, groups, i, k):
+def ways_there(standing, i, k):
     """By how many of the ways 0, 1, 2 person i may go to k.
 
     Each way asks all that the one ahead of it asks, so these are always the first ones.
     """
-    if has_in(worths, groups, i, k) <= has_now(worths, groups, i):
+    if has_in(standing, i, k) <= standing.has[i]:
         return 0
-    if not is_welcome(worths, groups, i, k):
+    if not is_welcome(standing, i, k):
         return 1
-    if not is_let_go(worths, groups, i):
+    if not is_let_go(standing, i):
         return 2
-    return 3
+    return EVERY_WAY
 
 
-def moves_by(worths, groups, way):
+def wished_by(standing, i):
+    """Where i would rather go, rising."""
+    sums = standing.liking.sums[i]
+    now = standing.has[i]
+    return [k for k, there in enumerate(standing.places) if sums[there] > now]
+
+
+def moves_by(standing, way):
     """Each move as who and where, by who, of like ones by where."""
     found = []
-    for i in range(len(groups)):
-        for k in range(how_many(groups) + 1):
-            if ways_there(worths, groups, i, k) > way:
+    for i in range(len(standing.groups)):
+        for k in wished_by(standing, i):
+            if ways_there(standing, i, k) > way:
                 found.append((i, k))
     return found
 
 
-def most_among(worths, groups, i, places):
+def ways_anywhere(standing):
+    """By how many of the ways somebody may go somewhere: by the ways from that number on all are at rest."""
+    most = 0
+    for i in range(len(standing.groups)):
+        for k in wished_by(standing, i):
+            most = max(most, ways_there(standing, i, k))
+        if most == EVERY_WAY:
+            return most
+    return most
+
+
+def is_at_rest(standing, way):
+    return ways_anywhere(standing) <= way
+
+
+def most_among(standing, i, places):
     """Of places in which i has as much the one that is told first."""
-    return max(places, key=lambda k: has_in(worths, groups, i, k))
+    return max(places, key=lambda k: has_in(standing, i, k))
 
 
-def best_place(worths, groups, i):
+def best_place(standing, i):
     # Their own group is told first, so that another one must be better, not just as good.
-    places = [groups[i]] + list(range(how_many(groups) + 1))
-    return most_among(worths, groups, i, places)
+    places = [standing.groups[i]] + list(range(len(standing.places)))
+    return most_among(standing, i, places)
 
 
-def step_by(worths, groups, way):
+def step_by(standing, way):
     """The move that a step makes, as who and where; None if nobody may go."""
-    moves = moves_by(worths, groups, way)
+    moves = moves_by(standing, way)
     if len(moves) == 0:
         return None
     first = moves[0][0]
     places = [move[1] for move in moves if move[0] == first]
-    return (first, most_among(worths, groups, first, places))
+    return (first, most_among(standing, first, places))
 
 
 def gone(groups, i, k):

@@ -1,5 +1,7 @@
 """What one object keeps from call to call."""
 
+from restgroups.standing import Liking, Standing
+
 MOST_TAKEN_BACK = 10
 
 
@@ -24,6 +26,9 @@ class Kept:
 
     def is_begun(self):
         return len(self.groups) > 0
+
+    def is_person(self, i):
+        return i < len(self.groups)
 
     def remember(self):
         past = self.past + [(self.worths, self.groups, self.made)]
@@ -50,3 +55,11 @@ class Kept:
         self.worths = last[0]
         self.groups = last[1]
         self.made = last[2]
+
+
+def liking_of(kept):
+    return Liking(kept.worths)
+
+
+def standing_of(kept):
+    return Standing(liking_of(kept), kept.groups)

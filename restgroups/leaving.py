@@ -1,6 +1,6 @@
-"""Sets of people, told as numbers (person i counts 2^i), and whether they would leave."""
+"""Which sets of people would leave, what holds, and which sets are firm."""
 
-from restgroups.going import has_now, has_with, how_many, numbered
+from restgroups.standing import how_many, numbered
 
 NOT_AT_ALL = 0
 WEAKLY = 1
@@ -12,29 +12,70 @@ def is_set(s, n):
     return s > 0 and (s >> n) == 0
 
 
-def people_of(s, n):
-    return [i for i in range(n) if ((s >> i) & 1) == 1]
-
-
-def how_they_leave(worths, groups, s):
+def how_they_leave(standing, s):
     """How the people of s would leave; those who would leave wholly would leave weakly too."""
-    people = people_of(s, len(groups))
-    gains = [has_with(worths, i, people) - has_now(worths, groups, i) for i in people]
-    if min(gains) > 0:
-        return WHOLLY
-    if min(gains) == 0 and max(gains) > 0:
-        return WEAKLY
-    return NOT_AT_ALL
+    sums = standing.liking.sums
+    has = standing.has
+    people = standing.liking.people[s]
+    gaining = 0
+    for i in people:
+        if sums[i][s] < has[i]:
+            return NOT_AT_ALL
+        if sums[i][s] > has[i]:
+            gaining = gaining + 1
+    if gaining == 0:
+        return NOT_AT_ALL
+    return WHOLLY if gaining == len(people) else WEAKLY
 
 
-def leavers_by(worths, groups, w):
+def least_leaving(w):
+    return WEAKLY if w == 1 else WHOLLY
+
+
+def leavers_by(standing, w):
     """The sets that would leave (w 0), or would leave at least weakly (w 1), rising."""
-    least = WEAKLY if w == 1 else WHOLLY
-    return [s for s in range(1, 1 << len(groups)) if how_they_leave(worths, groups, s) >= least]
+    least = least_leaving(w)
+    return [s for s in range(1, len(standing.liking.people)) if how_they_leave(standing, s) >= least]
 
 
-def left_by(groups, s):
+def leaving_at_most(standing):
+    """How some set would leave, where none would more."""
+    most = NOT_AT_ALL
+    for s in range(1, len(standing.liking.people)):
+        most = max(most, how_they_leave(standing, s))
+        if most == WHOLLY:
+            return most
+    return most
+
+
+def is_holding(standing, w):
+    return leaving_at_most(standing) < least_leaving(w)
+
+
+def left_by(standing, s):
     """The groups behind the leaving of s."""
-    people = people_of(s, len(groups))
+    groups = standing.groups
+    people = standing.liking.people[s]
     apart = how_many(groups)
     return numbered([apart if i in people else groups[i] for i in range(len(groups))])
+
+
+def is_lesser_within(part, s):
+    return part < s and (part & s) == part
+
+
+def is_better_apart(liking, part, s):
+    """Whether each of part would have more with just these than with all of s."""
+    return all([liking.sums[i][part] > liking.sums[i][s] for i in liking.people[part]])
+
+
+def is_firm(liking, s):
+    for part in range(1, s):
+        if is_lesser_within(part, s) and is_better_apart(liking, part, s):
+            return False
+    return True
+
+
+def firm_sets(liking):
+    """The sets that are firm, rising."""
+    return [s for s in range(1, len(liking.people)) if is_firm(liking, s)]

@@ -63,6 +63,60 @@ def rests(w):
     return [13, w]
 
 
+def holds(w):
+    return [14, w]
+
+
+def kinds():
+    return [15]
+
+
+def run(w):
+    return [16, w]
+
+
+def rounds(w):
+    """The call round."""
+    return [17, w]
+
+
+def most(k):
+    return [18, k]
+
+
+def among(k, w):
+    return [19, k, w]
+
+
+def beaten():
+    return [20]
+
+
+def envies():
+    return [21]
+
+
+def firm():
+    return [22]
+
+
+def perfect():
+    return [23]
+
+
+def likes(i):
+    return [24, i]
+
+
+def grouped():
+    """The call groups."""
+    return [25]
+
+
+def state():
+    return [26]
+
+
 def asked(*calls):
     """Each call's answer, as a list of its own."""
     line = [number for call in calls for number in call]
@@ -89,30 +143,32 @@ def rows(table):
     return [row(i, list(worths_of)) for i, worths_of in enumerate(table)]
 
 
+def alike(n, x):
+    """Each is worth x to each other one."""
+    return [begin(n), *rows([[0 if i == j else x for j in range(n)] for i in range(n)])]
+
+
+# Five in a ring: each likes the next one best, the one ahead less, the others not at all. Nothing holds.
+RING = [begin(5), *rows([[(0, 2, -20, -20, 1)[(j - i) % 5] for j in range(5)] for i in range(5)])]
+
+
 def groups_behind(n, *calls):
-    """Each person's group behind the calls: where all are worth 0 one's own group is the best."""
-    showing = rows([[0] * n] * n) + [best(i) for i in range(n)]
-    found = asked(*calls, *showing)[-n:]
-    if any(answer[1] != 0 for answer in found):
-        raise AssertionError(f"worth 0 to one another, yet {found!r}")
-    return [answer[0] for answer in found]
+    """Each person's group behind the calls."""
+    count, *groups = last(*calls, grouped())
+    if len(groups) != n or count != len(set(groups)):
+        raise AssertionError(f"{n} people, yet {count}, {groups!r}")
+    return groups
 
 
 def worths_behind(n, *calls):
-    """What each is worth to each behind the calls, told two by two."""
-    found = []
-    for i in range(n):
-        line = []
-        for j in range(n):
-            if i == j:
-                line.append(0)
-            else:
-                line.append(last(*calls, like(i, j, 0))[1])
-        found.append(line)
-    return found
+    """What each is worth to each behind the calls."""
+    found = asked(*calls, *[likes(i) for i in range(n)])[-n:]
+    if any(len(answer) != n + 1 or answer[0] != n for answer in found):
+        raise AssertionError(f"{n} people, yet {found!r}")
+    return [answer[1:] for answer in found]
 
 
 def all_behind(n, *calls):
-    """Worths and groups behind the calls, and how many changes can then be taken back."""
+    """Worths, groups and state behind the calls, and how many changes can really be taken back then."""
     taken = asked(*calls, *[back()] * 11)[-11:]
-    return worths_behind(n, *calls), groups_behind(n, *calls), taken.index([-6])
+    return worths_behind(n, *calls), groups_behind(n, *calls), last(*calls, state()), taken.index([-6])

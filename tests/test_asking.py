@@ -1,9 +1,9 @@
-"""Points 3 and 4, as far as they have landed: worths, moves, best, rests, leavers."""
+"""Points 3 and 4: worths, moves, best, rests, leavers."""
 
 import unittest
 from itertools import product
 
-from tests.helper import GREATEST, asked, be, begin, best, last, leavers, like, moves, rests, row, rows, worths
+from tests.helper import GREATEST, RING, asked, be, begin, best, last, leavers, like, moves, rests, row, rows, worths
 
 
 class Worths(unittest.TestCase):
@@ -140,13 +140,10 @@ class Leavers(unittest.TestCase):
         self.assertEqual(asked(begin(3), *rows(table), be([0, 0, 1]), leavers(0), leavers(1))[-2:], [[0], [0]])
 
     def test_nothing_holds(self):
-        # Five in a ring: each likes the next one best, the one ahead less, the others not at all.
-        table = [[(0, 2, -20, -20, 1)[(j - i) % 5] for j in range(5)] for i in range(5)]
-        ahead = [begin(5), *rows(table)]
         for groups in product(range(5), repeat=5):
-            self.assertGreater(last(*ahead, be(list(groups)), leavers(0))[0], 0)
-        self.assertEqual(last(*ahead, be([0, 0, 1, 1, 2]), leavers(0)), [1, 24])
-        self.assertEqual(last(*ahead, leavers(0)), [5, 3, 6, 12, 17, 24])
+            self.assertGreater(last(*RING, be(list(groups)), leavers(0))[0], 0)
+        self.assertEqual(last(*RING, be([0, 0, 1, 1, 2]), leavers(0)), [1, 24])
+        self.assertEqual(last(*RING, leavers(0)), [5, 3, 6, 12, 17, 24])
 
     def test_nothing_holds_weakly(self):
         ahead = [begin(3), *rows([[0, 1, 0], [0, 0, 0], [-1, 1, 0]])]

@@ -2,11 +2,11 @@
 
 import unittest
 
-from restgroups.kept import Kept
-from restgroups.people import answer_call, answers
+from restgroups.people import answers
 from tests.helper import (
-    GREATEST, GREATEST_SIGNED, LEAST_SIGNED, all_behind, asked, back, be, begin, best, even, go, groups_behind, last,
-    leave, leavers, like, moves, rests, row, rows, step, worths, worths_behind,
+    GREATEST, GREATEST_SIGNED, LEAST_SIGNED, all_behind, among, asked, back, be, beaten, begin, best, envies, even,
+    firm, go, grouped, groups_behind, holds, kinds, last, leave, leavers, like, likes, most, moves, perfect, rests,
+    rounds, row, rows, run, state, step, worths, worths_behind,
 )
 
 # Each call but begin, as it might be told.
@@ -14,12 +14,17 @@ OTHERS = [
     [1, 0, 1, 5], [2, 0, 2, 0, 1], [3], [4, 2, 0, 0], [5, 0, 1], [6, 1], [7, 0], [8], [9], [10, 0], [11, 0], [12, 0],
     [13, 0], [14, 0], [15], [16, 0], [17, 0], [18, 0], [19, 0, 0], [20], [21], [22], [23], [24, 0], [25], [26],
 ]
-# Each call of this stage, refused where two people have begun.
+# Each call that can be, refused where two people have begun, of whom 0 likes 1, in one group.
 REFUSED = [
     begin(0), begin(6), like(2, 0, 1), like(0, 0, 1), row(2, [0, 0]), row(0, [1, 1]), be([0]), be([0, 2]), go(2, 0),
-    go(0, 9), leave(0), leave(4), step(3), moves(3), best(2), leavers(2), rests(3),
+    go(0, 9), go(1, 0), leave(0), leave(4), step(3), step(0), moves(3), best(2), leavers(2), rests(3), holds(2), run(3),
+    rounds(3), most(2), among(2, 0), among(0, 5), beaten(), likes(2),
 ]
-ASKING = [worths(), moves(0), moves(1), moves(2), best(0), best(1), leavers(0), leavers(1), rests(0), rests(1), rests(2)]
+ASKING = [
+    worths(), moves(0), moves(1), moves(2), best(0), best(1), leavers(0), leavers(1), rests(0), rests(1), rests(2),
+    holds(0), holds(1), kinds(), run(0), run(1), run(2), rounds(0), rounds(1), rounds(2), most(0), most(1), envies(),
+    firm(), perfect(), likes(0), likes(1), grouped(), state(),
+] + [among(k, w) for k in range(2) for w in range(5)]
 
 
 class AheadOfAll(unittest.TestCase):
@@ -33,19 +38,44 @@ class AheadOfAll(unittest.TestCase):
             self.assertEqual(asked(begin(n), *OTHERS), [[-22]] + [[-61]] * 26)
 
     def test_not_begun_is_told_ahead_of_all_other_refusals(self):
-        wrong = [like(9, 9, 99), row(9, []), be([]), go(9, 9), leave(0), step(3), moves(3), best(9), leavers(2)]
-        self.assertEqual(asked(*wrong, rests(3)), [[-61]] * 10)
+        wrong = [like(9, 9, 99), row(9, []), be([]), go(9, 9), leave(0), step(3), moves(3), best(9), leavers(2),
+                 rests(3), holds(2), run(3), rounds(3), most(2), among(2, 5), likes(9)]
+        self.assertEqual(asked(*wrong), [[-61]] * 16)
 
     def test_the_list_given_back(self):
         self.assertEqual(answers([9, 0, 2, 1, 0, 1, -7, 4, 2, 1, 1, 9, 0, 6]),
                          [1, -61, 1, 0, 2, 0, 0, 1, 1, 4, 0, -7, 0, -7, 1, -22])
+
+    def test_the_list_given_back_by_the_calls_that_ask(self):
+        ahead = [0, 3, 2, 0, 3, 0, 4, -3, 1, 1, 0, 2, 4, 3, 0, 1, 0]
+        asking = [14, 0, 15, 16, 0, 17, 0, 18, 0, 19, 1, 2, 20, 21, 22, 23, 24, 0, 25, 26]
+        self.assertEqual(answers(ahead + asking), [
+            1, 0,
+            1, 0,
+            2, 0, 0,
+            1, 2,
+            1, 0,
+            6, 5, 2, 2, 2, 2, 1,
+            5, 1, 1, 0, 0, 1,
+            3, 4, 1, 0,
+            5, 2, 0, 0, 1, 6,
+            5, 1, 0, 0, 0, 0,
+            4, 1, 0, 0, 0,
+            5, 2, 0, 1, 1, 2,
+            7, 6, 1, 2, 3, 4, 6, 7,
+            4, 2, 0, 0, 1,
+            4, 3, 0, 4, -3,
+            4, 2, 0, 1, 0,
+            4, 3, 0, 0, 3,
+        ])
 
     def test_one_call_alone(self):
         self.assertEqual(answers([0, 1]), [1, 0])
         self.assertEqual(answers([8]), [1, -61])
 
     def test_what_is_handed_in_stays_and_nothing_is_kept(self):
-        line = sum([begin(3), row(0, [0, 5, -5]), even(), be([2, 2, 1]), go(0, 1), leave(3), step(0), back()], [])
+        changing = [begin(3), row(0, [0, 5, -5]), even(), be([2, 2, 1]), go(0, 1), leave(3), step(0), back()]
+        line = sum(changing + ASKING, [])
         copy = list(line)
         first = answers(line)
         self.assertEqual(line, copy)
@@ -58,9 +88,22 @@ class AheadOfAll(unittest.TestCase):
         first.append(7)
         self.assertEqual(answers([0, 1]), [1, 0])
 
-    def test_five_thousand_calls(self):
+    def test_five_thousand_calls_of_two_kinds(self):
         given = asked(begin(5), *rows([[0] * 5] * 5), *[moves(2)] * 2497, *[leavers(1)] * 2497)
         self.assertEqual(given, [[0]] * 5000)
+
+    def test_five_thousand_calls_of_all_kinds(self):
+        table = [[0, 3, -2, 1, 4], [2, 0, 5, -4, 1], [1, 1, 0, 6, -3], [4, -5, 2, 0, 1], [-1, 2, 3, -6, 0]]
+        again = [begin(5), *rows(table), be([0, 1, 0, 2, 2]), step(0), step(1), go(4, 1), leave(9), like(0, 1, -7),
+                 *ASKING, beaten(), even(), *ASKING, back(), back(), back()]
+        once = asked(*again)
+        times = 5000 // len(again)
+        filled = [state()] * (5000 - times * len(again))
+        self.assertEqual(asked(*again * times, *filled), once * times + [[5, 3, 0, 7]] * len(filled))
+
+    def test_five_thousand_changes(self):
+        line = [begin(5)] + [go(0, 1), go(0, 1)] * 2499
+        self.assertEqual(asked(*line, state())[-1], [5, 4998, 1, 10])
 
 
 class Begin(unittest.TestCase):
@@ -74,12 +117,12 @@ class Begin(unittest.TestCase):
             self.assertEqual(asked(begin(n)), [[-22]])
 
     def test_all_are_alone_and_worth_nothing(self):
-        self.assertEqual(all_behind(4, begin(4)), ([[0] * 4] * 4, [0, 1, 2, 3], 0))
+        self.assertEqual(all_behind(4, begin(4)), ([[0] * 4] * 4, [0, 1, 2, 3], [4, 0, 1, 0], 0))
 
     def test_begin_again(self):
         used = [begin(4), *rows([[0, 1, 2, 3]] + [[0] * 4] * 3), be([0, 0, 1, 1]), go(0, 1), step(0)]
-        self.assertEqual(all_behind(3, *used, begin(3)), ([[0] * 3] * 3, [0, 1, 2], 0))
-        self.assertEqual(all_behind(5, *used, begin(5)), ([[0] * 5] * 5, [0, 1, 2, 3, 4], 0))
+        self.assertEqual(all_behind(3, *used, begin(3)), ([[0] * 3] * 3, [0, 1, 2], [3, 0, 1, 0], 0))
+        self.assertEqual(all_behind(5, *used, begin(5)), ([[0] * 5] * 5, [0, 1, 2, 3, 4], [5, 0, 1, 0], 0))
         self.assertEqual(asked(*used, begin(4), back())[-2:], [[0], [-6]])
 
     def test_a_refused_begin_leaves_all(self):
@@ -87,36 +130,6 @@ class Begin(unittest.TestCase):
         for n in (0, 6, GREATEST):
             self.assertEqual(last(*used, begin(n)), [-22])
             self.assertEqual(all_behind(3, *used, begin(n)), all_behind(3, *used))
-
-
-class Made(unittest.TestCase):
-    """How many moves were made; no call of this stage tells it."""
-
-    def made_behind(self, *calls):
-        kept = Kept()
-        for number, *told in calls:
-            self.assertGreaterEqual(answer_call(kept, number, told)[0], 0)
-        return kept.made
-
-    def test_each_move_counts(self):
-        ahead = [begin(3), like(0, 1, 1)]
-        self.assertEqual(self.made_behind(*ahead), 0)
-        self.assertEqual(self.made_behind(*ahead, go(0, 2)), 1)
-        self.assertEqual(self.made_behind(*ahead, go(0, 2), leave(3)), 2)
-        self.assertEqual(self.made_behind(*ahead, step(0), leave(1), step(0)), 3)
-
-    def test_what_is_no_move_does_not(self):
-        ahead = [begin(3), like(0, 1, 1), go(0, 1)]
-        self.assertEqual(self.made_behind(*ahead, like(1, 0, 2), [2, 2, 1, 1, 0], even(), worths(), moves(0)), 1)
-
-    def test_begin_and_be_count_anew(self):
-        self.assertEqual(self.made_behind(begin(2), go(0, 1), begin(2)), 0)
-        self.assertEqual(self.made_behind(begin(2), go(0, 1), [4, 0, 1]), 0)
-        self.assertEqual(self.made_behind(begin(2), go(0, 1), [4, 0, 1], leave(1)), 1)
-
-    def test_back(self):
-        self.assertEqual(self.made_behind(begin(2), go(0, 1), leave(1), back()), 1)
-        self.assertEqual(self.made_behind(begin(2), go(0, 1), leave(1), [4, 0, 1], back()), 2)
 
 
 class Like(unittest.TestCase):
